@@ -1,0 +1,1 @@
+"""Warebids: wares sold by sealed bids, each winner paying what the others lose by it."""
